@@ -2,6 +2,7 @@
 
 from fractions import Fraction
 from itertools import combinations, product
+from math import gcd
 from random import Random
 
 from letbychecks.codes import Code
@@ -12,6 +13,9 @@ HALF_ROW = ((1, 2), (1, 2), (1, 1), (1, 2), (1, 2))
 
 # Things that are no number, no sequence of numbers, and the like.
 ODD_THINGS = (None, True, False, "", "01", 1.0, -1, b"01", {}, set(), object(), (), [[]], ((),), (None,), [True, 1])
+
+# Prices that are none of FIVE, and the place that the error tells.
+WRONG_PRICES = ((None, -1), ((), -1), ((0,) * 4, -1), ("00000", -1), ((0, 0, 100, 0, True), 2), ([0, None, 0, 0, 0], 1))
 
 
 def ratio(number):
@@ -129,6 +133,125 @@ def let_row_on(random, bits, check, steps=4):
 def grid_rows(bits, bottom):
     """All rows with this bottom, ascending."""
     return [tuple(ratio(Fraction(top, bottom)) for top in tops) for tops in product(range(bottom + 1), repeat=bits)]
+
+
+def rests_by_hand(code, prices, paper):
+    """The rests as [4.3] tells them."""
+    rests = []
+    for bit in range(code.bits):
+        rest = Fraction(prices[bit]) + sum(Fraction(*weight) for mine, weight in paper[1] if mine == bit)
+        rest += sum(Fraction(*weight) for _, lot, weight in paper[0] if bit in lot)
+        rest -= sum(Fraction(*weight) for number, lot, weight in paper[0]
+                    if bit in code.checks[number] and bit not in lot)
+        rests.append(rest)
+    return rests
+
+
+def price_by_hand(paper):
+    """The paper's price as [4.3] tells it."""
+    return (-sum(Fraction(*weight) * (len(lot) - 1) for _, lot, weight in paper[0])
+            - sum(Fraction(*weight) for _, weight in paper[1]))
+
+
+def some_prices(random, code, most=9):
+    """Prices by chance."""
+    return tuple(random.randint(-most, most) for _ in range(code.bits))
+
+
+def rank_by_hand(rows):
+    """The rank of rows of numbers."""
+    kept = []
+    for row in rows:
+        left = [Fraction(entry) for entry in row]
+        for place, base in kept:
+            left = [entry - left[place] * more for entry, more in zip(left, base)]
+        place = next((place for place, entry in enumerate(left) if entry), None)
+        if place is not None:
+            kept.append((place, [entry / left[place] for entry in left]))
+    return len(kept)
+
+
+def met_by_hand(rules):
+    """The one row with the value of each rule (slope, value), n rules of n numbers, or None."""
+    rows = [[Fraction(entry) for entry in (*slope, value)] for slope, value in rules]
+    for place in range(len(rows)):
+        pivot = next((row for row in rows[place:] if row[place]), None)
+        if pivot is None:
+            return None
+        rows.remove(pivot)
+        pivot = [entry / pivot[place] for entry in pivot]
+        rows = [[entry - row[place] * more for entry, more in zip(row, pivot)] for row in rows]
+        rows.insert(place, pivot)
+    return [row[-1] for row in rows]
+
+
+def let_rules(code):
+    """The rules (slope, bound) of all let rows: the sum of slope times share is at most the bound."""
+    rules = {}
+    for bit in range(code.bits):
+        for sign, bound in ((-1, 0), (1, 1)):
+            rules[tuple(sign if place == bit else 0 for place in range(code.bits)), bound] = True
+    for check in code.checks:
+        for lot in odd_lots_by_hand(check):
+            slope = tuple(0 if bit not in check else 1 if bit in lot else -1 for bit in range(code.bits))
+            rules[slope, len(lot) - 1] = True
+    return list(rules)
+
+
+def tight_by_hand(code, row):
+    """The slopes of the rules that the row meets exactly."""
+    shares = fractions(row)
+    return [slope for slope, bound in let_rules(code)
+            if sum(part * share for part, share in zip(slope, shares)) == bound]
+
+
+def is_corner_by_hand(code, row):
+    """Whether a row is let and its tight rules leave it alone."""
+    return fault_by_hand(code, row) is None and rank_by_hand(tight_by_hand(code, row)) == code.bits
+
+
+def corners_by_hand(code):
+    """All corners, ascending, by all choices of n rules: for small codes."""
+    found = set()
+    for rules in combinations(let_rules(code), code.bits):
+        met = met_by_hand(rules)
+        if met is not None and all(0 <= share <= 1 for share in met):
+            if fault_by_hand(code, ratios(*met)) is None:
+                found.add(tuple(met))
+    return [ratios(*row) for row in sorted(found)]
+
+
+def cone_rules_by_hand(code):
+    """The slopes of all rules of the cone rows: the sum of slope times entry is 0 at least."""
+    rules = {tuple(int(place == bit) for place in range(code.bits)): True for bit in range(code.bits)}
+    for check in code.checks:
+        for bit in check:
+            rules[tuple(0 if other not in check else -1 if other == bit else 1
+                        for other in range(code.bits))] = True
+    return list(rules)
+
+
+def keeps_rules(rules, row):
+    """Whether the sum of slope times entry is 0 at least for each rule."""
+    return all(sum(part * entry for part, entry in zip(rule, row)) >= 0 for rule in rules)
+
+
+def is_ray_by_hand(code, row):
+    """Whether a row of integers is a ray, as its tight rules and its divisor tell."""
+    rules = cone_rules_by_hand(code)
+    tight = [rule for rule in rules if not sum(part * entry for part, entry in zip(rule, row))]
+    return keeps_rules(rules, row) and gcd(*row) == 1 and rank_by_hand(tight) == code.bits - 1
+
+
+def cone_rows_by_hand(code, most):
+    """All cone rows with entries up to the most, ascending."""
+    rules = cone_rules_by_hand(code)
+    return [row for row in product(range(most + 1), repeat=code.bits) if keeps_rules(rules, row)]
+
+
+def digit_costs(prices, row):
+    """The sum of price times entry or share, a fraction."""
+    return sum(price * (Fraction(*entry) if isinstance(entry, tuple) else entry) for price, entry in zip(prices, row))
 
 
 class Raises:

@@ -29,12 +29,27 @@ FUNCTIONS = {
     "coverings": "cover_of(code, row, sheets=None) rows_on_sheets(code, sheets)",
     "papers": """paper_price(code, paper) paper_rests(code, prices, paper) paper_fault(code, prices, price, paper)
         summed_paper(one, other) scaled_paper(paper, times) turned_paper(code, prices, paper, word)""",
+    "cheapest": "cheapest_let(code, prices) share_range(code, prices, bit) is_sole(code, prices)",
+    "verdicts": """best_word(code, prices) cheapest_words(code, prices) verdict_at(code, prices)
+        price_gap(code, prices)""",
+    "cones": """check_entries(code, row) cone_fault(code, row) small_row(code, row) zero_sole(code, prices)
+        sole_paper(code, prices) sole_paper_fault(code, prices, paper)""",
+    "rays": "all_rays(code) ray_parts(code, row) bars_from(code, row)",
+    "flips": "flip_prices(code, lot) flip_fault(code, lot) barred_lots(code, many) greatest_flips(code)",
+    "turned": "turned_row(code, row, word) turned_prices(code, prices, word) rival_row(code, prices, word)",
+    "mending": "mend_prices(code, prices) mend_received(code, received)",
 }
-CLASSES = {"codes": ("Code", "(bits, checks)", ("__init__", "__len__", "__eq__")),
-           "covers": ("Cover", "(code, sheets, wires)", ("__init__", "__eq__")),
-           "coverings": ("Covering", "(cover, marks)", ("__init__",))}
+CLASSES = {
+    "codes": "Code(bits, checks)",
+    "covers": "Cover(code, sheets, wires)",
+    "coverings": "Covering(cover, marks)",
+    "cheapest": "Cheapest(price, row, paper) SpanEnd(share, row, times, paper) Span(low, high)",
+    "flips": "Flips(many, lot, row)",
+    "mending": "Mended(word) Unsure(row)",
+}
+COMPARED = {"Code": ("__len__", "__eq__"), "Cover": ("__eq__",)}
 GENERATORS = (("words", "words_of"), ("letrows", "odd_lots"), ("coverwords", "cover_words"),
-              ("coverings", "rows_on_sheets"))
+              ("coverings", "rows_on_sheets"), ("verdicts", "cheapest_words"), ("flips", "barred_lots"))
 
 
 def module_of(name):
@@ -42,9 +57,9 @@ def module_of(name):
     return importlib.import_module(f"letbychecks.{name}")
 
 
-def listed(name):
-    """The couples of name and arguments that are listed for a module."""
-    for part in " ".join(FUNCTIONS[name].split()).split(") "):
+def listed(texts):
+    """The couples of name and arguments of a text."""
+    for part in " ".join(texts.split()).split(") "):
         called, inside = part.rstrip(")").split("(")
         yield called, f"({inside})"
 
@@ -52,7 +67,7 @@ def listed(name):
 class Interface(unittest.TestCase):
     def test_functions(self):
         for name in FUNCTIONS:
-            for called, arguments in listed(name):
+            for called, arguments in listed(FUNCTIONS[name]):
                 function = getattr(module_of(name), called)
                 self.assertTrue(inspect.isfunction(function), called)
                 self.assertEqual(str(inspect.signature(function)), arguments, called)
@@ -63,17 +78,30 @@ class Interface(unittest.TestCase):
             self.assertTrue(inspect.isgeneratorfunction(getattr(module_of(name), called)))
 
     def test_classes(self):
-        for name, (called, arguments, methods) in CLASSES.items():
-            made = getattr(module_of(name), called)
-            self.assertEqual(str(inspect.signature(made)), arguments)
-            self.assertEqual(made.__module__, f"letbychecks.{name}")
-            for method in methods:
-                self.assertIn(method, vars(made))
+        for name, texts in CLASSES.items():
+            for called, arguments in listed(texts):
+                made = getattr(module_of(name), called)
+                self.assertTrue(inspect.isclass(made), called)
+                self.assertEqual(str(inspect.signature(made)), arguments or "()")
+                self.assertEqual(made.__module__, f"letbychecks.{name}")
+                for method in COMPARED.get(called, ()):
+                    self.assertIn(method, vars(made))
+
+    def test_results_keep_what_they_are_given(self):
+        for name, texts in CLASSES.items():
+            for called, arguments in listed(texts):
+                if called not in COMPARED:
+                    words = [word for word in arguments.strip("()").split(", ") if word]
+                    things = {word: object() for word in words}
+                    self.assertEqual(vars(getattr(module_of(name), called)(**things)), things)
+                    self.assertEqual(list(vars(getattr(module_of(name), called)(*words)).items()),
+                                     list(zip(words, words)))
 
     def test_results_have_no_equality(self):
-        made = module_of("coverings").Covering
-        self.assertNotIn("__eq__", vars(made))
-        self.assertIs(made.__eq__, object.__eq__)
+        for name, texts in CLASSES.items():
+            for called, _ in listed(texts):
+                if called not in COMPARED:
+                    self.assertIs(getattr(module_of(name), called).__eq__, object.__eq__)
 
 
 if __name__ == "__main__":

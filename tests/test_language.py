@@ -13,9 +13,10 @@ PACKAGE = Path(__file__).resolve().parent.parent / "letbychecks"
 FILES = sorted(path for path in PACKAGE.rglob("*") if "__pycache__" not in path.parts)
 LIBRARY = {"math": {"gcd", "lcm"}}
 BUILTINS = set("""len range enumerate zip min max sum abs sorted reversed int str bool list tuple dict set isinstance
-    any all divmod ValueError""".split())
+    any all divmod iter property ValueError""".split())
 METHODS = set("append copy count extend get index insert items keys pop setdefault values bit_length".split())
-DOUBLE = {"__init__", "__eq__", "__len__"}
+DOUBLE = {"__init__", "__eq__", "__len__", "__iter__"}
+PROPERTIES = {"ended"}
 BARRED_NAMES = set("""register mro elements open input law version_info with_traceback add_note attrgetter breakpoint
     builtins compile copyright credits delattr dir eval exec exit gc globals help id importlib license locals
     methodcaller os quit super type vars sys""".split())
@@ -193,10 +194,12 @@ class Nodes(unittest.TestCase):
 
     def test_functions(self):
         for name, node in all_nodes(ast.FunctionDef):
-            self.assertEqual(node.decorator_list, [])
+            self.assertEqual([ast.unparse(sign) for sign in node.decorator_list],
+                             ["property"] if node.name in PROPERTIES else [], (name, node.name))
             self.assertIsNone(node.returns)
-            self.assertFalse(any(argument.annotation for argument in node.args.args))
-            self.assertFalse(node.args.vararg or node.args.kwarg or node.args.kwonlyargs)
+            self.assertFalse(any(argument.annotation for argument in ast.walk(node.args)
+                                 if isinstance(argument, ast.arg)))
+            self.assertIsNone(node.args.kwarg)
             self.assertIsInstance(node.above, (ast.Module, ast.ClassDef), (name, node.name))
             if not isinstance(node.above, ast.ClassDef):
                 self.assertIsNotNone(ast.get_docstring(node), (name, node.name))
@@ -206,7 +209,23 @@ class Nodes(unittest.TestCase):
             self.assertIsInstance(node.above, ast.Module)
             self.assertIsNotNone(ast.get_docstring(node))
             for child in node.body[1:]:
-                self.assertIn(child.name, DOUBLE, (name, node.name))
+                self.assertIn(child.name, DOUBLE | PROPERTIES, (name, node.name))
+
+    def test_iterated_classes(self):
+        """An __iter__ is one plain line, and a class that has one has no __len__."""
+        for name, node in all_nodes(ast.ClassDef):
+            methods = {child.name: child for child in node.body[1:]}
+            if "__iter__" in methods:
+                self.assertNotIn("__len__", methods)
+                self.assertRegex(ast.unparse(methods["__iter__"].body[-1]), r"^return iter\(self\.\w+\)$")
+                self.assertEqual(len(methods["__iter__"].body), 1)
+
+    def test_iter_and_property_stand_nowhere_else(self):
+        for name, node in all_nodes(ast.Name):
+            if node.id == "iter":
+                self.assertEqual(node.above.above.above.name, "__iter__", (name, node.lineno))
+            if node.id == "property":
+                self.assertIn(getattr(node.above, "name", None), PROPERTIES, (name, node.lineno))
 
     def test_is(self):
         for name, node in all_nodes(ast.Compare):
@@ -235,6 +254,16 @@ class Nodes(unittest.TestCase):
                 fit = isinstance(above, (ast.For, ast.comprehension)) or called(above) in ("list", "tuple")
                 self.assertTrue(fit, (name, node.lineno))
 
+    def test_generators_are_no_values(self):
+        generators = {node.name for _, node in all_nodes(ast.FunctionDef)
+                      if any(isinstance(child, (ast.Yield, ast.YieldFrom)) for child in ast.walk(node))}
+        names = [node.name for _, node in all_nodes(ast.FunctionDef)]
+        for name in generators:
+            self.assertEqual(names.count(name), 1, name)
+        for name, node in all_nodes(ast.Name):
+            if node.id in generators:
+                self.assertTrue(isinstance(node.above, ast.Call) and node.above.func is node, (name, node.lineno))
+
     def test_sets(self):
         for name, node in all_nodes(ast.Call):
             if called(node) == "set":
@@ -250,7 +279,16 @@ class Nodes(unittest.TestCase):
     def test_keywords_of_calls(self):
         for name, node in all_nodes(ast.Call):
             for keyword in node.keywords:
-                self.assertEqual((called(node), keyword.arg), ("sorted", "key"), (name, node.lineno))
+                self.assertEqual(called(node), "sorted", (name, node.lineno))
+                self.assertIn(keyword.arg, ("key", "reverse"), (name, node.lineno))
+                if keyword.arg == "reverse":
+                    self.assertIsInstance(keyword.value, ast.Constant, (name, node.lineno))
+
+    def test_stars_of_functions(self):
+        """Only one function has a star among its parameters, and one a bare star."""
+        told = [(node.name, node.args.vararg is not None) for _, node in all_nodes(ast.FunctionDef)
+                if node.args.vararg or node.args.kwonlyargs]
+        self.assertLessEqual(set(told), {("joined_stops", True), ("peel_erased", False)})
 
     def test_what_loops_go_over_is_not_changed(self):
         for name, node in all_nodes(ast.For):

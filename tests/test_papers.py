@@ -9,15 +9,14 @@ from letbychecks.errors import BadPrices, BadTimes, BadWord, LowRest
 from letbychecks.letrows import is_let
 from letbychecks.papers import paper_fault, paper_price, paper_rests, scaled_paper, summed_paper, turned_paper
 from letbychecks.words import cost_of, word_cost
-from tests.helpers import FIVE, ODD_THINGS, Raises, fractions, grid_rows, odd_lots_by_hand, ratio, ratios, some_codes
-from tests.helpers import words_by_hand
+from tests.helpers import FIVE, ODD_THINGS, WRONG_PRICES, Raises, grid_rows, odd_lots_by_hand, price_by_hand, ratio
+from tests.helpers import ratios, rests_by_hand, some_codes, some_prices, words_by_hand
 
 EMPTY = ((), ())
 ZEROS = (0,) * 5
 PRICES = (0, 0, -1, 0, 0)
 SOLE = ((), ((2, (1, 1)),))
 PAPER = (((0, (1,), (1, 2)), (1, (0,), (1, 3)), (1, (0, 1, 2), (2, 1))), ((0, (1, 2)), (4, (5, 1))))
-WRONG_PRICES = ((None, -1), ((), -1), ((0,) * 4, -1), ("00000", -1), ((0, 0, 100, 0, True), 2), ([0, None, 0, 0, 0], 1))
 
 
 def lists(paper):
@@ -34,24 +33,6 @@ def some_paper(random, code, bits=True):
     return (tuple(lots), tuple(more) if bits else ())
 
 
-def rests_by_hand(code, prices, paper):
-    """The rests as [4.3] tells them."""
-    rests = []
-    for bit in range(code.bits):
-        rest = Fraction(prices[bit]) + sum(Fraction(*weight) for mine, weight in paper[1] if mine == bit)
-        rest += sum(Fraction(*weight) for _, lot, weight in paper[0] if bit in lot)
-        rest -= sum(Fraction(*weight) for number, lot, weight in paper[0]
-                    if bit in code.checks[number] and bit not in lot)
-        rests.append(rest)
-    return rests
-
-
-def price_by_hand(paper):
-    """The paper's price as [4.3] tells it."""
-    return (-sum(Fraction(*weight) * (len(lot) - 1) for _, lot, weight in paper[0])
-            - sum(Fraction(*weight) for _, weight in paper[1]))
-
-
 def good_paper(random, code, prices):
     """A paper by chance with bit entries that leave no rest below 0."""
     lots, more = some_paper(random, code)
@@ -61,11 +42,6 @@ def good_paper(random, code, prices):
         if weight > 0:
             entries.append((bit, ratio(weight)))
     return (lots, tuple(entries))
-
-
-def some_prices(random, code, most=9):
-    """Prices by chance."""
-    return tuple(random.randint(-most, most) for _ in range(code.bits))
 
 
 class Sums(Raises, unittest.TestCase):
