@@ -36,12 +36,11 @@ def broken_rule(code, tops, bottom, worst_rule):
     return rule if lack >= side_lack else side
 
 
-def start_columns(prices):
-    """Return the columns of the sides of the box at which each bit costs least."""
+def start_columns(prices, signs):
+    """Return the columns of the sides of the box, one for each bit, that have these signs."""
     columns = []
     for bit, price in enumerate(prices):
-        sign = -1 if price < 0 else 1
-        columns.append([abs(price)] + [sign if place == bit else 0 for place in range(len(prices))])
+        columns.append([price * signs[bit]] + [signs[bit] if place == bit else 0 for place in range(len(prices))])
     return columns
 
 
@@ -90,8 +89,9 @@ def cheapest_corner(code, prices, worst_rule):
     and by how much, times the bottom, or (0, None). The prices are whole numbers of any size. The members are n
     couples (rule, weight) of unlike rules that meet in the row alone, and of which the prices are the sum.
     """
-    columns = start_columns(prices)
-    rules = [side_rule(code.bits, bit, -1 if price < 0 else 1) for bit, price in enumerate(prices)]
+    signs = [-1 if price < 0 else 1 for price in prices]
+    columns = start_columns(prices, signs)
+    rules = [side_rule(code.bits, bit, sign) for bit, sign in enumerate(signs)]
     bottom = 1
     tops = meeting_tops(rules, columns)
     rule = broken_rule(code, tops, bottom, worst_rule)

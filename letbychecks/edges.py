@@ -28,6 +28,7 @@ def zeros_at(rules, row):
 
 def has_ones(mask, many):
     """Tell whether the mask has so many binary digits 1 at least."""
+    # Each step takes away the last digit 1.
     for _ in range(many - 1):
         mask &= mask - 1
     return many <= 0 or mask != 0
@@ -114,9 +115,10 @@ def furthest(rules, row, ray):
 def ray_sum(rays, rules, row):
     """Return a list of couples (ray's row, ratio) with unlike rays that come to the row, which keeps to the rules.
 
-    Each ray is 0 wherever the row that is left is, and takes all that it can, so that what is left is 0 at more
-    rules that do not follow from the others. Hence there are no more rays than entries.
+    There are no more rays than entries.
     """
+    # Each ray comes to 0 at all rules at which what is left does, and as much of it is taken as can be. So one rule
+    # more comes to 0, one that does not follow from those before, and the ray never fits again.
     left = list(row)
     bottom = 1
     parts = []

@@ -160,6 +160,13 @@ class ZeroSole(Raises, unittest.TestCase):
             self.assertIsNone(zero_sole(BARE, prices))
             self.paper_judged(BARE, prices, sole_paper(BARE, prices))
 
+    def test_weights_of_0_give_no_entry(self):
+        for bits, checks, prices in ((3, [(2,), (0, 1, 2), (2,), (1,)], (1, -1, 1)),
+                                     (5, [(0, 1, 3, 4), (0, 4), (1, 2, 4), (0, 1, 2, 3)], (-1, 1, 2, 1, 1)),
+                                     (4, [(0, 3), (0, 2, 3), (0, 1, 3), (0, 1, 2, 3), (2,)], (1, 0, -1, 1)),
+                                     (1, [(0,)], (0,)), (1, [(0,)], (-1,))):
+            self.paper_judged(Code(bits, checks), prices, sole_paper(Code(bits, checks), prices))
+
     def test_costs_of_0(self):
         self.row_judged(RING, (0, 0, 0), zero_sole(RING, (0, 0, 0)))
         self.assertEqual(zero_sole(RING, (1, 1, -2)), (1, 1, 1))
@@ -197,8 +204,8 @@ class PaperFault(unittest.TestCase):
         one = (1, 1)
         for paper in (None, 5, "abc", {}, True, "", object()):
             self.assertEqual(self.fault(paper), "place")
-        for entry in (None, 5, (), (0, 0), (0, 0, one, one), "abc", (4, 0, one), (-1, 0, one), (True, 0, one),
-                      (None, 0, one), (0, 2, one), (0, -1, one), (0, True, one), (0, False, one), (0, None, one),
+        for entry in (None, 5, (), (0, 0), (0, 0, one, one), "abc", (4, 0, one), (-1, 4, one), (-1, 0, one),
+                      (True, 0, one), (None, 0, one), (0, 2, one), (0, -1, one), (0, True, one), (0, False, one), (0, None, one),
                       (0.0, 0, one), (0, 1.0, one), ("0", 0, one), (3, 2, one), (False, 0, one), ((0,), 0, one)):
             self.assertEqual(self.fault([entry]), "place", entry)
             self.assertEqual(self.fault([(0, 0, None), entry]), "place", entry)

@@ -38,6 +38,18 @@ FUNCTIONS = {
     "flips": "flip_prices(code, lot) flip_fault(code, lot) barred_lots(code, many) greatest_flips(code)",
     "turned": "turned_row(code, row, word) turned_prices(code, prices, word) rival_row(code, prices, word)",
     "mending": "mend_prices(code, prices) mend_received(code, received)",
+    "counted": "counted_fault(code, row) counted_cover(code, row)",
+    "stops": """stop_fault(code, lot) greatest_stop(code, lot) least_stops(code) joined_stops(code, *lots)
+        stop_row(code, lot) row_support(code, row) stop_lots(code)""",
+    "peeling": """peel_erased(code, lot, *, order=None) peel_fault(code, lot, steps) peel_waves(code, lot)
+        least_hints(code, lot) greatest_erased(code)""",
+    "erasures": """check_erased(code, received) erased_lot(code, received) fill_erased(code, received)
+        fill_best(code, received) sure_bits(code, received) first_gap(code) received_prices(code, received)
+        mend_erased(code, received) both_fault(code, flips, erased) fitting_words(code, received)""",
+    "passing": "tables_along(code, prices) price_pairs(code, prices) cheapest_by_passing(code, prices)",
+    "corners": """slopes_at(code, row) corners_of(code) check_corner(code, row) corner_prices(code, corner)
+        neighbours_of(code, corner) all_neighbours(code) walk_down(code, prices, corner)
+        cheapest_corners(code, prices) corner_parts(code, row) parts_fault(code, row, parts)""",
 }
 CLASSES = {
     "codes": "Code(bits, checks)",
@@ -46,10 +58,13 @@ CLASSES = {
     "cheapest": "Cheapest(price, row, paper) SpanEnd(share, row, times, paper) Span(low, high)",
     "flips": "Flips(many, lot, row)",
     "mending": "Mended(word) Unsure(row)",
+    "peeling": "Peeled(steps, left) Waves(waves, left) Erased(many, lot)",
+    "erasures": "Filled(word) Left(lot, told) Clash(number) Several(one, other) NoWord()",
 }
 COMPARED = {"Code": ("__len__", "__eq__"), "Cover": ("__eq__",)}
 GENERATORS = (("words", "words_of"), ("letrows", "odd_lots"), ("coverwords", "cover_words"),
-              ("coverings", "rows_on_sheets"), ("verdicts", "cheapest_words"), ("flips", "barred_lots"))
+              ("coverings", "rows_on_sheets"), ("verdicts", "cheapest_words"), ("flips", "barred_lots"),
+              ("stops", "stop_lots"), ("erasures", "fitting_words"), ("passing", "tables_along"))
 
 
 def module_of(name):
