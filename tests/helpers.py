@@ -7,6 +7,7 @@ from random import Random
 
 from letbychecks.codes import Code
 from letbychecks.covers import Cover
+from letbychecks.ties import Web
 
 FIVE = Code(5, ((0, 1), (0, 1, 2), (2, 3, 4), (3, 4)))
 HALF_ROW = ((1, 2), (1, 2), (1, 1), (1, 2), (1, 2))
@@ -252,6 +253,80 @@ def cone_rows_by_hand(code, most):
 def digit_costs(prices, row):
     """The sum of price times entry or share, a fraction."""
     return sum(price * (Fraction(*entry) if isinstance(entry, tuple) else entry) for price, entry in zip(prices, row))
+
+
+def some_web(random, most_ties=10):
+    """A web by chance: few posts, so that it has rounds, and now and then one that is not joined."""
+    ties = random.randint(1, most_ties)
+    posts = random.randint(2, max(2, min(20, ties // random.choice((1, 2, 2)) + random.randint(0, 2))))
+    return Web(posts, [sorted(random.sample(range(posts), 2)) for _ in range(ties)])
+
+
+def some_webs(seed, many, most_ties=10):
+    """Webs by chance, the same ones in each run."""
+    random = Random(seed)
+    return [some_web(random, most_ties) for _ in range(many)]
+
+
+def met_by_ties(web, lot, post):
+    """How many ties of the lot the post meets."""
+    return sum(post in web.ties[tie] for tie in lot)
+
+
+def posts_of_ties(web, lot):
+    """The set of the posts that the ties meet."""
+    return {post for tie in lot for post in web.ties[tie]}
+
+
+def round_fault_by_hand(web, lot):
+    """What round_fault must return."""
+    if not lot:
+        return "empty"
+    if any(met_by_ties(web, lot, post) not in (0, 2) for post in range(web.posts)):
+        return "post"
+    joined = {lot[0]}
+    for _ in lot:
+        joined |= {tie for tie in lot if any(set(web.ties[tie]) & set(web.ties[other]) for other in joined)}
+    return None if joined == set(lot) else "parts"
+
+
+def rounds_by_hand(web):
+    """All rounds in the order of lots."""
+    return [lot for lot in lots_of(range(len(web.ties))) if round_fault_by_hand(web, lot) is None]
+
+
+def is_way_by_hand(web, way, start, goal):
+    """Whether these ties are a way from start to goal."""
+    posts = [start]
+    for tie in way:
+        if posts[-1] not in web.ties[tie]:
+            return False
+        posts.append(sum(web.ties[tie]) - posts[-1])
+    return posts[-1] == goal and len(set(posts)) == len(posts)
+
+
+def ways_by_hand(web, start, goal, met=()):
+    """All ways from start to goal that meet none of these posts, by length, then ascending."""
+    if start == goal:
+        return [()]
+    ways = []
+    for tie in range(len(web.ties)):
+        post = sum(web.ties[tie]) - start
+        if start in web.ties[tie] and post not in met:
+            ways.extend((tie, *way) for way in ways_by_hand(web, post, goal, (*met, start)))
+    return sorted(ways, key=lambda way: (len(way), way))
+
+
+def aparts_by_hand(web):
+    """All triples (one, other, way) of two rounds apart, one ahead of other in the order of lots."""
+    found = []
+    for one, other in combinations(rounds_by_hand(web), 2):
+        ones, others = posts_of_ties(web, one), posts_of_ties(web, other)
+        if not ones & others:
+            for start, goal in product(ones, others):
+                found.extend((one, other, way) for way in ways_by_hand(web, start, goal)
+                             if posts_of_ties(web, way) & (ones | others) == {start, goal})
+    return found
 
 
 class Raises:

@@ -50,6 +50,15 @@ FUNCTIONS = {
     "corners": """slopes_at(code, row) corners_of(code) check_corner(code, row) corner_prices(code, corner)
         neighbours_of(code, corner) all_neighbours(code) walk_down(code, prices, corner)
         cheapest_corners(code, prices) corner_parts(code, row) parts_fault(code, row, parts)""",
+    "integral": "broken_corners(code) all_right(code)",
+    "ties": "web_code(web) check_posts(web) web_from_code(code)",
+    "rounds": """round_fault(web, lot) round_posts(web, lot) all_rounds(web) all_ways(web, one, other)
+        apart_fault(web, two) find_apart(web) apart_row(web, two) apart_ray(web, two) apart_prices(web, two)
+        web_rays(web)""",
+    "halves": "web_corners(web)",
+    "pairings": """odd_posts(web, lot) pair_posts(web, prices) pairing_fault(web, prices, pairing)
+        better_round(web, prices, word)""",
+    "smallcodes": "echelon_code(code) small_code(which) same_up_to_order(one, other)",
 }
 CLASSES = {
     "codes": "Code(bits, checks)",
@@ -60,11 +69,18 @@ CLASSES = {
     "mending": "Mended(word) Unsure(row)",
     "peeling": "Peeled(steps, left) Waves(waves, left) Erased(many, lot)",
     "erasures": "Filled(word) Left(lot, told) Clash(number) Several(one, other) NoWord()",
+    "integral": "FooledAt(corner, prices)",
+    "ties": "Web(posts, ties)",
+    "rounds": "TwoRounds(one, other, way)",
+    "pairings": "Pairing(price, word, start, ways)",
 }
-COMPARED = {"Code": ("__len__", "__eq__"), "Cover": ("__eq__",)}
+COMPARED = {"Code": ("__len__", "__eq__"), "Cover": ("__eq__",), "Web": ("__eq__", "__iter__")}
+METHODS = {"Web": "ties_at(self, post)"}
+PROPERTIES = {"Peeled": ("ended",), "Web": ("piece_posts",)}
 GENERATORS = (("words", "words_of"), ("letrows", "odd_lots"), ("coverwords", "cover_words"),
               ("coverings", "rows_on_sheets"), ("verdicts", "cheapest_words"), ("flips", "barred_lots"),
-              ("stops", "stop_lots"), ("erasures", "fitting_words"), ("passing", "tables_along"))
+              ("stops", "stop_lots"), ("erasures", "fitting_words"), ("passing", "tables_along"),
+              ("rounds", "all_rounds"), ("rounds", "all_ways"), ("rounds", "web_rays"), ("halves", "web_corners"))
 
 
 def module_of(name):
@@ -101,6 +117,15 @@ class Interface(unittest.TestCase):
                 self.assertEqual(made.__module__, f"letbychecks.{name}")
                 for method in COMPARED.get(called, ()):
                     self.assertIn(method, vars(made))
+
+    def test_methods_and_properties_stand_in_their_classes(self):
+        for name, texts in CLASSES.items():
+            for called, _ in listed(texts):
+                made = getattr(module_of(name), called)
+                for method, arguments in listed(METHODS[called]) if called in METHODS else ():
+                    self.assertEqual(str(inspect.signature(vars(made)[method])), arguments)
+                for word in PROPERTIES.get(called, ()):
+                    self.assertIsInstance(vars(made)[word], property)
 
     def test_results_keep_what_they_are_given(self):
         for name, texts in CLASSES.items():

@@ -16,7 +16,9 @@ BUILTINS = set("""len range enumerate zip min max sum abs sorted reversed int st
     any all divmod iter property ValueError""".split())
 METHODS = set("append copy count extend get index insert items keys pop setdefault values bit_length".split())
 DOUBLE = {"__init__", "__eq__", "__len__", "__iter__"}
-PROPERTIES = {"ended"}
+PROPERTIES = {"ended", "piece_posts"}
+OWN_METHODS = {"ties_at"}
+CLASS_VALUES = {"MOST_TIES"}
 BARRED_NAMES = set("""register mro elements open input law version_info with_traceback add_note attrgetter breakpoint
     builtins compile copyright credits delattr dir eval exec exit gc globals help id importlib license locals
     methodcaller os quit super type vars sys""".split())
@@ -67,8 +69,20 @@ def bound_names(function):
 
 
 def is_plain(node):
-    """Whether a value at module level is a plain literal."""
-    return isinstance(node, ast.Constant) or isinstance(node, ast.Tuple) and all(map(is_plain, node.elts))
+    """Whether a value at module level is a plain literal: a dict holds no list or dict."""
+    if isinstance(node, ast.Dict):
+        return all(map(is_flat, node.keys)) and all(map(is_flat, node.values))
+    return is_flat(node)
+
+
+def is_flat(node):
+    """Whether a value is a literal without a list or a dict."""
+    return isinstance(node, ast.Constant) or isinstance(node, ast.Tuple) and all(map(is_flat, node.elts))
+
+
+def class_functions(node):
+    """The functions in the body of a class."""
+    return [child for child in node.body if isinstance(child, ast.FunctionDef)]
 
 
 class Files(unittest.TestCase):
@@ -169,14 +183,14 @@ class Names(unittest.TestCase):
     def test_only_some_methods(self):
         for name, node in all_nodes(ast.Call):
             if isinstance(node.func, ast.Attribute):
-                self.assertIn(node.func.attr, METHODS, (name, node.lineno))
+                self.assertIn(node.func.attr, METHODS | OWN_METHODS, (name, node.lineno))
                 self.assertEqual(node.keywords, [], (name, node.lineno))
 
     def test_attributes_are_assigned(self):
         stored = {node.attr for _, node in all_nodes(ast.Attribute) if isinstance(node.ctx, ast.Store)}
         for name, node in all_nodes(ast.Attribute):
             if not (isinstance(node.above, ast.Call) and node.above.func is node):
-                self.assertIn(node.attr, stored, (name, node.lineno))
+                self.assertIn(node.attr, stored | PROPERTIES | CLASS_VALUES, (name, node.lineno))
 
 
 class Nodes(unittest.TestCase):
@@ -209,12 +223,33 @@ class Nodes(unittest.TestCase):
             self.assertIsInstance(node.above, ast.Module)
             self.assertIsNotNone(ast.get_docstring(node))
             for child in node.body[1:]:
-                self.assertIn(child.name, DOUBLE | PROPERTIES, (name, node.name))
+                if isinstance(child, ast.Assign):
+                    self.assertTrue(is_flat(child.value), (name, node.name))
+                    self.assertIn(ast.unparse(child.targets), CLASS_VALUES, (name, node.name))
+                else:
+                    self.assertIn(child.name, DOUBLE | PROPERTIES | OWN_METHODS, (name, node.name))
+
+    def test_own_names_of_classes_stand_for_nothing_else(self):
+        """No attribute, function or name of a file has the name of a method, a property or a class value."""
+        stored = {node.attr for _, node in all_nodes(ast.Attribute) if isinstance(node.ctx, ast.Store)}
+        functions = {node.name for _, node in all_nodes(ast.FunctionDef) if isinstance(node.above, ast.Module)}
+        self.assertFalse((stored | functions) & (PROPERTIES | OWN_METHODS | CLASS_VALUES))
+
+    def test_properties_call_nothing_of_their_own(self):
+        """So they change nothing but lists of their own: L5 asks this of all that a property calls, too."""
+        functions = {node.name for _, node in all_nodes(ast.FunctionDef)}
+        for name, node in all_nodes(ast.FunctionDef):
+            if node.name in PROPERTIES:
+                for child in ast.walk(node):
+                    if isinstance(child, ast.Call):
+                        self.assertNotIn(called(child), functions | {None}, (name, node.name))
+                    if isinstance(child, (ast.Attribute, ast.Subscript)):
+                        self.assertIsInstance(child.ctx, ast.Load, (name, node.name))
 
     def test_iterated_classes(self):
         """An __iter__ is one plain line, and a class that has one has no __len__."""
         for name, node in all_nodes(ast.ClassDef):
-            methods = {child.name: child for child in node.body[1:]}
+            methods = {child.name: child for child in class_functions(node)}
             if "__iter__" in methods:
                 self.assertNotIn("__len__", methods)
                 self.assertRegex(ast.unparse(methods["__iter__"].body[-1]), r"^return iter\(self\.\w+\)$")
