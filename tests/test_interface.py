@@ -3,6 +3,7 @@
 import importlib
 import inspect
 import unittest
+from pathlib import Path
 
 FUNCTIONS = {
     "ratios": """is_whole(thing, low=None, high=None) is_sequence(thing) is_ratio(thing) is_share(thing)
@@ -59,6 +60,16 @@ FUNCTIONS = {
     "pairings": """odd_posts(web, lot) pair_posts(web, prices) pairing_fault(web, prices, pairing)
         better_round(web, prices, word)""",
     "smallcodes": "echelon_code(code) small_code(which) same_up_to_order(one, other)",
+    "cutstruck": """cut_code(code, lot) struck_code(code, lot) small_of(code, cut, struck) find_hidden(code)
+        hidden_fault(code, hidden) hidden_prices(code, hidden)""",
+    "needless": "needless_parts(code, lot) needed_sums(code)",
+    "pools": """check_wishes(code, wishes) wish_fault(code, wishes) check_pool(code, pool) with_picks(code, pool, picks)
+        least_pools(code, pool, wishes) find_pool(code, pool, wishes) pool_fault(code, pool, wishes, picks)
+        least_spoilers(code, pool, wishes)""",
+    "edits": """check_edit(code, edit) edited_pair(code, prices, edit) edited_all(code, prices, edits)
+        undo_edit(code, prices, edit) edits_between(code, prices, other, other_prices)""",
+    "codetext": "code_text(code) lot_text(lot) word_text(word) read_code(text) read_lot(text) read_word(text)",
+    "pricetext": "prices_text(prices) row_text(row) read_prices(text) read_row(text)",
 }
 CLASSES = {
     "codes": "Code(bits, checks)",
@@ -73,10 +84,18 @@ CLASSES = {
     "ties": "Web(posts, ties)",
     "rounds": "TwoRounds(one, other, way)",
     "pairings": "Pairing(price, word, start, ways)",
+    "cutstruck": "Hidden(which, cut, struck, order)",
+    "bench": "Bench(code, prices)",
 }
 COMPARED = {"Code": ("__len__", "__eq__"), "Cover": ("__eq__",), "Web": ("__eq__", "__iter__")}
-METHODS = {"Web": "ties_at(self, post)"}
-PROPERTIES = {"Peeled": ("ended",), "Web": ("piece_posts",)}
+CHECKED = (*COMPARED, "Bench")
+METHODS = {
+    "Web": "ties_at(self, post)",
+    "Bench": """do_edit(self, edit) add_check(self, lot, number=None) drop_check(self, number) set_price(self, bit, price)
+        take_back(self) verdict_now(self) price_now(self) fault_now(self, wishes) watch_row(self, row) let_now(self)
+        tried_edits(self, edits)""",
+}
+PROPERTIES = {"Peeled": ("ended",), "Web": ("piece_posts",), "Bench": ("log", "watched")}
 GENERATORS = (("words", "words_of"), ("letrows", "odd_lots"), ("coverwords", "cover_words"),
               ("coverings", "rows_on_sheets"), ("verdicts", "cheapest_words"), ("flips", "barred_lots"),
               ("stops", "stop_lots"), ("erasures", "fitting_words"), ("passing", "tables_along"),
@@ -127,10 +146,23 @@ class Interface(unittest.TestCase):
                 for word in PROPERTIES.get(called, ()):
                     self.assertIsInstance(vars(made)[word], property)
 
+    def test_the_static_method(self):
+        made = vars(module_of("bench").Bench)["from_edits"]
+        self.assertIsInstance(made, staticmethod)
+        self.assertEqual(str(inspect.signature(made.__func__)), "(code, prices, edits)")
+
+    def test_all_files_are_listed(self):
+        """The package has the files of the interface and a few more, which nothing outside needs."""
+        listed_files = set(FUNCTIONS) | set(CLASSES) | {"errors"}
+        self.assertEqual(len(listed_files), 38)
+        folder = Path(module_of("errors").__file__).parent
+        self.assertEqual({path.stem for path in folder.glob("*.py")} - listed_files,
+                         {"__init__", "boxes", "edges", "lots"})
+
     def test_results_keep_what_they_are_given(self):
         for name, texts in CLASSES.items():
             for called, arguments in listed(texts):
-                if called not in COMPARED:
+                if called not in CHECKED:
                     words = [word for word in arguments.strip("()").split(", ") if word]
                     things = {word: object() for word in words}
                     self.assertEqual(vars(getattr(module_of(name), called)(**things)), things)

@@ -13,11 +13,14 @@ PACKAGE = Path(__file__).resolve().parent.parent / "letbychecks"
 FILES = sorted(path for path in PACKAGE.rglob("*") if "__pycache__" not in path.parts)
 LIBRARY = {"math": {"gcd", "lcm"}}
 BUILTINS = set("""len range enumerate zip min max sum abs sorted reversed int str bool list tuple dict set isinstance
-    any all divmod iter property ValueError""".split())
-METHODS = set("append copy count extend get index insert items keys pop setdefault values bit_length".split())
+    any all divmod iter property staticmethod ValueError""".split())
+METHODS = set("""append copy count extend find get index insert items join keys partition pop setdefault split
+    startswith values bit_length""".split())
 DOUBLE = {"__init__", "__eq__", "__len__", "__iter__"}
-PROPERTIES = {"ended", "piece_posts"}
-OWN_METHODS = {"ties_at"}
+PROPERTIES = {"ended", "piece_posts", "log", "watched"}
+STATIC = {"from_edits"}
+OWN_METHODS = STATIC | {"ties_at", "do_edit", "add_check", "drop_check", "set_price", "take_back", "verdict_now",
+                        "price_now", "fault_now", "watch_row", "let_now", "tried_edits"}
 CLASS_VALUES = {"MOST_TIES"}
 BARRED_NAMES = set("""register mro elements open input law version_info with_traceback add_note attrgetter breakpoint
     builtins compile copyright credits delattr dir eval exec exit gc globals help id importlib license locals
@@ -209,7 +212,8 @@ class Nodes(unittest.TestCase):
     def test_functions(self):
         for name, node in all_nodes(ast.FunctionDef):
             self.assertEqual([ast.unparse(sign) for sign in node.decorator_list],
-                             ["property"] if node.name in PROPERTIES else [], (name, node.name))
+                             ["property"] if node.name in PROPERTIES else
+                             ["staticmethod"] if node.name in STATIC else [], (name, node.name))
             self.assertIsNone(node.returns)
             self.assertFalse(any(argument.annotation for argument in ast.walk(node.args)
                                  if isinstance(argument, ast.arg)))
@@ -261,6 +265,8 @@ class Nodes(unittest.TestCase):
                 self.assertEqual(node.above.above.above.name, "__iter__", (name, node.lineno))
             if node.id == "property":
                 self.assertIn(getattr(node.above, "name", None), PROPERTIES, (name, node.lineno))
+            if node.id == "staticmethod":
+                self.assertIn(getattr(node.above, "name", None), STATIC, (name, node.lineno))
 
     def test_is(self):
         for name, node in all_nodes(ast.Compare):
@@ -274,7 +280,8 @@ class Nodes(unittest.TestCase):
             self.assertIn(called(node.exc), errors, (name, node.lineno))
             self.assertEqual(node.exc.keywords, [])
         for name, node in all_nodes(ast.ExceptHandler):
-            self.assertIn(node.type.id, errors, (name, node.lineno))
+            for caught in node.type.elts if isinstance(node.type, ast.Tuple) else [node.type]:
+                self.assertIn(caught.id, errors, (name, node.lineno))
 
     def test_iterated_at_once(self):
         generators = {node.name for _, node in all_nodes(ast.FunctionDef)
@@ -284,6 +291,7 @@ class Nodes(unittest.TestCase):
             view = isinstance(node.func, ast.Attribute) and node.func.attr in ("items", "keys", "values")
             if view or called(node) in AT_ONCE:
                 fit = isinstance(above, (ast.For, ast.comprehension)) or called(above) in ("list", "tuple")
+                fit = fit or called(node) == "range" and called(above) == "reversed"
                 self.assertTrue(fit, (name, node.lineno))
             if called(node) in generators:
                 fit = isinstance(above, (ast.For, ast.comprehension)) or called(above) in ("list", "tuple")
