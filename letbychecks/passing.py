@@ -64,7 +64,7 @@ def passed_tables(code, owns):
     # Without a ring, some wire that waits always has all that it needs.
     while len(waiting) > 0:
         late = []
-        for source, target in waiting:
+        for source, target in list(waiting):
             needed = [(place, source) for place in links[source] if place != target]
             if all([wire in passed for wire in needed]):
                 passed[(source, target)] = sent_table(owns, source, [passed[wire] for wire in needed])

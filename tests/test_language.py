@@ -88,6 +88,45 @@ def class_functions(node):
     return [child for child in node.body if isinstance(child, ast.FunctionDef)]
 
 
+def function_of(node):
+    """The function in which a node stands."""
+    while not isinstance(node, ast.FunctionDef):
+        node = node.above
+    return node
+
+
+def base_of(node):
+    """The name at the left of items and attributes, or None."""
+    while isinstance(node, (ast.Subscript, ast.Attribute)):
+        node = node.value
+    return node.id if isinstance(node, ast.Name) else None
+
+
+def alike_names(function):
+    """A dict of each name of a function to all names that may stand for the same thing: by plain assignments."""
+    groups = {}
+    for node in ast.walk(function):
+        if isinstance(node, ast.Assign):
+            for source in ast.walk(node.value) if isinstance(node.value, (ast.IfExp, ast.BoolOp)) else [node.value]:
+                for target in node.targets:
+                    if isinstance(source, ast.Name) and isinstance(target, ast.Name):
+                        joined = groups.get(source.id, {source.id}) | groups.get(target.id, {target.id})
+                        groups.update({name: joined for name in joined})
+    return groups
+
+
+def walked_names(node):
+    """The names of what a loop goes over, and those that may stand for the same things."""
+    parts = [node.iter]
+    if called(node.iter) in AT_ONCE:
+        parts = node.iter.args
+    elif isinstance(node.iter, ast.Call) and isinstance(node.iter.func, ast.Attribute):
+        parts = [node.iter.func.value]
+    names = {base_of(part) for part in parts} - {None}
+    groups = alike_names(function_of(node))
+    return names.union(*[groups.get(name, set()) for name in names])
+
+
 class Files(unittest.TestCase):
     def test_names(self):
         for path in FILES:
@@ -334,17 +373,17 @@ class Nodes(unittest.TestCase):
         self.assertLessEqual(set(told), {("joined_stops", True), ("peel_erased", False)})
 
     def test_what_loops_go_over_is_not_changed(self):
+        """Neither by its own name nor by one that may stand for the same thing, nor a part of it."""
         for name, node in all_nodes(ast.For):
-            over = ast.unparse(node.iter)
+            over = walked_names(node)
             for child in ast.walk(ast.Module(body=node.body, type_ignores=[])):
-                if isinstance(child, (ast.Name, ast.Subscript, ast.Attribute)) and isinstance(child.ctx, ast.Store):
-                    base = child
-                    while isinstance(base, (ast.Subscript, ast.Attribute)):
-                        base = base.value
-                    self.assertNotEqual(ast.unparse(base), over, (name, node.lineno))
+                if isinstance(child, (ast.Subscript, ast.Attribute)) and isinstance(child.ctx, ast.Store):
+                    self.assertNotIn(base_of(child), over, (name, node.lineno))
+                if isinstance(child, ast.Name) and isinstance(child.ctx, ast.Store):
+                    self.assertNotEqual(child.id, ast.unparse(node.iter), (name, node.lineno))
                 if isinstance(child, ast.Call) and isinstance(child.func, ast.Attribute):
                     changes = child.func.attr in ("append", "pop", "extend", "insert", "setdefault")
-                    self.assertFalse(changes and ast.unparse(child.func.value) == over, (name, node.lineno))
+                    self.assertFalse(changes and base_of(child.func.value) in over, (name, node.lineno))
 
 
 if __name__ == "__main__":
