@@ -1,8 +1,10 @@
 """Tests of letbychecks.cutstruck: [9.2], [9.5], [9.6], [9.7]."""
 
 import unittest
+from fractions import Fraction
 from random import Random
 
+from letbychecks.cheapest import cheapest_let
 from letbychecks.codes import Code
 from letbychecks.corners import corners_of
 from letbychecks.cutstruck import Hidden, cut_code, find_hidden, hidden_fault, hidden_prices, small_of, struck_code
@@ -250,6 +252,8 @@ class HiddenPrices(Raises, unittest.TestCase):
         full = Code(code.bits, sums_by_hand(code)) if len(sums_by_hand(code)) < 64 else None
         if full is not None:
             self.assertEqual(verdict_at(full, prices), "fooled")
+            # Let rows of all costs between this and the cheapest word's are there.
+            self.assertLessEqual(Fraction(*cheapest_let(full, prices).price), Fraction(cost))
         if full is not None and not hidden.struck:
             shares = tuple((0, 1) if bit in hidden.cut else row[bit] for bit in range(code.bits))
             self.assertIsNone(fault_by_hand(full, shares))

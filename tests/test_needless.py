@@ -66,6 +66,13 @@ class Parts(Raises, unittest.TestCase):
         self.assertIsNone(needless_parts(Code(6, [(0, 1, 2, 3), (2, 3, 4, 5)]), (0, 1, 4, 5)))
         self.assertEqual(needed_sums(FIVE), ((2,), (0, 1), (3, 4)))
 
+    def test_two_common_bits_of_smaller_lots(self):
+        code = Code(8, [(0, 1, 2, 3, 4), (3, 4, 5, 6, 7)])
+        self.assertIsNone(needless_parts(code, (0, 1, 2, 5, 6, 7)))
+        self.assertEqual(needed_sums(code), ((0, 1, 2, 3, 4), (3, 4, 5, 6, 7), (0, 1, 2, 5, 6, 7)))
+        code = Code(7, [(0, 1, 2, 3), (3, 4, 5, 6)])
+        self.assertEqual(needless_parts(code, (0, 1, 2, 4, 5, 6)), ((0, 1, 2, 3), (3, 4, 5, 6)))
+
     def test_first_couple_by_its_first_lot(self):
         code = Code(4, [(0,), (1,), (2,), (3,)])
         self.assertEqual(needless_parts(code, (0, 1, 2, 3)), ((0,), (1, 2, 3)))

@@ -124,7 +124,11 @@ class Faults(unittest.TestCase):
                       ((0, 1, (0,)), (2, 2, ())), ((0, 1, (0,)), (2, 4, (2, 3))), ((0, 1, (0,)), (1, 2, (1,))),
                       ((0, 1, (0,)), (2, 3, (2,)), (1, 1, ())), ((-1, 1, (0,)), ways[1]), ((0, 1, ()), (2, 7, ()))):
             self.assertEqual(self.fault(prices, None, None, (0, 2), wrong), "pairs")
-        for wrong in ((), (1,), (0, 0), (0, 1), (4, 0), (6,), (-1,), (4, 3, 2, 5, 0), (5,), (4, 3, 5, 1, 2)):
+        for wrong in (None, 0, "0", (ways[0], None), (ways[0], (2, 3)), (ways[0], (2, 3, (2,), 0)), ((0, 1.0, ()), ways[1]),
+                      ((False, 1, (0,)), ways[1]), ((0, True, (0,)), ways[1]), ((None, 1, (0,)), ways[1])):
+            self.assertEqual(self.fault(prices, None, None, (0, 2), wrong), "pairs")
+        for wrong in ((), (1,), (0, 0), (0, 1), (4, 0), (6,), (-1,), (4, 3, 2, 5, 0), (5,), (4, 3, 5, 1, 2), (-6,),
+                      (4, -3, 5), (True,), (0.0,), None, 0, "0", {0: 0}, (4, 3, 2, 1, 5, 1)):
             self.assertEqual(self.fault(prices, None, None, [0, 2], ((0, 1, wrong), ways[1])), "way")
         # The way back is another one, and no tie may be on two ways.
         self.assertEqual(self.fault(prices, None, None, [0, 2], ((0, 1, (5, 3, 4)), ways[1])), "way")

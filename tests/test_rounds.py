@@ -190,12 +190,21 @@ class Apart(Raises, unittest.TestCase):
             self.assertEqual(apart_fault(WIDE, TwoRounds(right[0], right[0], thing)), "meet")
             self.assertEqual(apart_fault(WIDE, TwoRounds(*meets[:2], thing)), "meet")
         for thing in ODD_THINGS + ((4, 3), (3,), (4,), (3, 4, 4), (3, 3, 4), (0, 8, 9), (3, 4, 5), (1, 3, 4), (3, 9),
-                                   (3, 10), (3, True), (3.0, 4), "34", {3: 4}):
+                                   (3, 10), (3, True), (3.0, 4), "34", {3: 4}, (3, -6), (-7, 4), (-7, -6), (10,),
+                                   (10, 4), (11,)):
             self.assertEqual(apart_fault(WIDE, TwoRounds(right[0], right[1], thing)), "way")
         for way in ((3, 4), [8, 9]):
             self.assertIsNone(apart_fault(WIDE, TwoRounds(*right[:2], way)))
         self.assertEqual(apart_fault(WIDE, TwoRounds(right[1], right[0], (3, 4))), "way")
         self.assertIsNone(apart_fault(WIDE, TwoRounds(right[1], right[0], (4, 3))))
+
+    def test_a_way_meets_no_post_twice(self):
+        web = Web(6, ((0, 1), (0, 1), (1, 2), (2, 3), (2, 3), (2, 4), (4, 5), (4, 5)))
+        self.assertIsNone(apart_fault(web, TwoRounds((0, 1), (6, 7), (2, 5))))
+        self.assertEqual(apart_fault(web, TwoRounds((0, 1), (6, 7), (2, 3, 4, 5))), "way")
+        self.assertEqual(apart_fault(web, TwoRounds((0, 1), (3, 4), (2, 5))), "way")
+        self.assertEqual(apart_fault(web, TwoRounds((6, 7), (0, 1), (2, 5))), "way")
+        self.assertEqual(apart_fault(web, TwoRounds((6, 7), (0, 1), (7, 5, 2))), "way")
 
     def test_pieces_that_do_not_hang_together(self):
         for way in ((), (4,), (0,), (0, 2)):
