@@ -21,8 +21,8 @@ def echelon_of(checks, left, struck):
     # Reduced masks are told apart by their greatest bits. So the order of the bits left is turned round, and the bits
     # struck are the greatest of all: the masks without them are then those under the other ones.
     names = {bit: last - place for place, bit in enumerate(left)}
-    for place, bit in enumerate(struck):
-        names[bit] = len(left) + place
+    for place, gone in enumerate(struck):
+        names[gone] = len(left) + place
     table = reduced_masks([sum([1 << names[bit] for bit in check if bit in names]) for check in checks])
     lots = [word_lot(mask_digits(table[top], len(left))) for top in table if top <= last]
     return Code(len(left), sorted([tuple([last - bit for bit in reversed(lot)]) for lot in lots]))
